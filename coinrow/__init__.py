@@ -1,0 +1,1 @@
+"""Coins turned so many at once."""
