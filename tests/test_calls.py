@@ -5,7 +5,7 @@ import io
 import unittest
 
 from coinrow.turning import answers
-from helper import BIG, SHOWS, ask, coins, joined, places, turn
+from helper import BIG, FARTHEST, ROWS, SHOWS, ask, coins, joined, places, plans, to, turn
 
 
 class Watched(list):
@@ -32,6 +32,13 @@ MIXED = joined([
     turn(3),
     places(BIG),
     SHOWS,
+    FARTHEST,
+    to([0, 0, 1, 0]),
+    ROWS,
+    plans([0, 0, 1, 0]),
+    to([0, 0, 1, 1]),
+    plans([7, 6, 3]),
+    SHOWS,
 ])
 MIXED_ANSWERS = [
     4, 0, 1, 1, 0,
@@ -46,6 +53,13 @@ MIXED_ANSWERS = [
     3, 2, 0, 3,
     5, 1, 1, 0, 0, 0,
     1, -2,
+    7, 2, 2, 4, 1, 0, 0, 0,
+    6, 2, 3, 0, 0, 1, 0,
+    3, 2, 0, 1,
+    1, 8,
+    2, 2, 4,
+    1, -6,
+    1, -1,
     7, 2, 2, 4, 1, 0, 0, 0,
 ]
 
@@ -90,7 +104,8 @@ class SeveralCalls(unittest.TestCase):
             ([[5] + [1] * 5 + [0] * 5, [0] * 11] * 20)[:39])
 
     def test_a_refused_row_is_not_taken_for_calls(self):
-        self.assertEqual(ask(coins(0, 1, [3] * 30), SHOWS), [[-1], [0, 1, 1, 0]])
+        for call in (coins(0, 1, [3] * 30), to([3] * 30), plans([3] * 30)):
+            self.assertEqual(ask(call, SHOWS), [[-1], [0, 1, 1, 0]])
 
 
 class LeftAsItWas(unittest.TestCase):

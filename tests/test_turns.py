@@ -1,24 +1,8 @@
 """The calls turn and places, and point 2: what they refuse with -2."""
 
-import itertools
 import unittest
 
-from helper import BIG, SHOWS, all_k, ask, coins, places, turn
-
-
-def turns_told(mode, k, many):
-    """Give the places of each turn as the document's words tell them."""
-    if mode == 0:
-        return [list(chosen) for chosen in itertools.combinations(range(many), k)]
-    if mode == 1:
-        return [list(range(first, first + k)) for first in range(many - k + 1)]
-    # Twice around, cut out, and each place taken for the one it lies on.
-    around = list(range(many)) * 2
-    return [sorted(around[first:first + k]) for first in range(many)]
-
-
-def in_pieces(numbers, most):
-    return [numbers[start:start + most] for start in range(0, len(numbers), most)]
+from helper import BIG, SHOWS, all_k, ask, coins, in_pieces, places, turn, turns_told
 
 
 class Places(unittest.TestCase):
